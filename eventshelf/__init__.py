@@ -1,0 +1,1 @@
+"""The event store of a recommender system; eventshelf.desk answers its calls."""
