@@ -2,7 +2,7 @@
 
 from eventshelf.limits import MAX_CREATOR, MAX_DAY, MAX_FLAG, MAX_ITEMS, MAX_PRICE, categories_fit
 from eventshelf.refusals import not_found, outside_limits, too_many
-from eventshelf.store import Item, item_exists
+from eventshelf.store import Item, item_data, item_exists
 
 
 def add_item(store, creator, price, day, categories):
@@ -39,5 +39,4 @@ def set_withdrawn(store, item, flag):
 def item_info(store, item):
     if not item_exists(store, item):
         return not_found()
-    shown = store.shelf[item]
-    return [shown.creator, shown.price, shown.day, shown.withdrawn, len(shown.categories)] + shown.categories
+    return item_data(store, item)

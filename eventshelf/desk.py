@@ -1,12 +1,15 @@
 """The desk: takes a list of calls on one new object, and gives back their answers."""
 
 from eventshelf.catalog import add_item, item_info, set_price, set_withdrawn
-from eventshelf.journal import categories, counts, expire, record
+from eventshelf.journal import by_creator, categories, counts, expire, profile, record, split
 from eventshelf.limits import MAX_GAP, MAX_RETENTION, weights_fit
 from eventshelf.membership import add_member, delete_member, member_info
-from eventshelf.ranking import popularity, ratings, top_items
+from eventshelf.paths import conversion, funnel, sessions, together
+from eventshelf.ranking import popularity, ratings, top_items, trending
 from eventshelf.refusals import no_store, outside_limits
 from eventshelf.store import Store
+from eventshelf.summary import digest, status
+from eventshelf.tastes import common_members, history, opinions, unseen
 
 
 class Desk:
@@ -50,9 +53,39 @@ def answer_question(store, number, numbers):
         return popularity(store, numbers[0], numbers[1], numbers[2])
     if number == 13:
         return top_items(store, numbers[0], numbers[1], numbers[2])
-    if number == 14:
-        return categories(store, numbers[0], numbers[1])
-    raise NotImplementedError(f"call {number}")
+    return categories(store, numbers[0], numbers[1])
+
+
+def answer_later_question(store, number, numbers):
+    if number == 15:
+        return profile(store, numbers[0])
+    if number == 16:
+        return history(store, numbers[0], numbers[1])
+    if number == 17:
+        return sessions(store, numbers[0])
+    if number == 18:
+        return together(store, numbers[0], numbers[1])
+    if number == 19:
+        return common_members(store, numbers[0], numbers[1])
+    if number == 20:
+        return conversion(store, numbers[0])
+    return funnel(store, numbers[0], numbers[1], numbers[2:])
+
+
+def answer_last_question(store, number, numbers):
+    if number == 22:
+        return trending(store, numbers[0], numbers[1], numbers[2])
+    if number == 23:
+        return unseen(store, numbers[0])
+    if number == 24:
+        return opinions(store, numbers[0])
+    if number == 25:
+        return split(store, numbers[0])
+    if number == 26:
+        return by_creator(store, numbers[0], numbers[1], numbers[2])
+    if number == 27:
+        return digest(store)
+    return status(store)
 
 
 def answer_call(desk, number, numbers):
@@ -62,7 +95,11 @@ def answer_call(desk, number, numbers):
         return no_store()
     if number <= 7:
         return answer_change(desk.store, number, numbers)
-    return answer_question(desk.store, number, numbers)
+    if number <= 14:
+        return answer_question(desk.store, number, numbers)
+    if number <= 21:
+        return answer_later_question(desk.store, number, numbers)
+    return answer_last_question(desk.store, number, numbers)
 
 
 def answers(calls):

@@ -1,16 +1,14 @@
-"""The calls about events: recording, expiring and counting them."""
+"""The calls about events: recording, expiring, counting and weighing them."""
 
 from eventshelf.limits import CATEGORY_COUNT, KIND_COUNT, MAX_EVENTS, MAX_TIME, PURCHASE, value_fits
 from eventshelf.refusals import not_found, not_possible, outside_limits, too_many
-from eventshelf.store import Event, events_between, item_exists, member_exists
+from eventshelf.store import Event, events_between, events_of, item_exists, last_time, member_exists
 
 MINUTES_OF_DAY = 1440
 
 
 def time_follows(store, time):
-    if time > MAX_TIME:
-        return False
-    return len(store.events) == 0 or store.events[len(store.events) - 1].time <= time
+    return time <= MAX_TIME and time >= last_time(store)
 
 
 def record(store, time, member, item, kind, value):
@@ -39,19 +37,43 @@ def expire(store, time):
     return [removed_count]
 
 
-def counts(store, item, low, high):
-    if not item_exists(store, item):
-        return not_found()
+def kinds_told(events):
     tally = [0] * KIND_COUNT
-    for event in events_between(store, low, high):
-        if event.item == item:
-            tally[event.kind] += 1
+    for event in events:
+        tally[event.kind] += 1
     return [KIND_COUNT] + tally
 
 
-def categories(store, low, high):
+def counts(store, item, low, high):
+    if not item_exists(store, item):
+        return not_found()
+    return kinds_told([event for event in events_between(store, low, high) if event.item == item])
+
+
+def by_creator(store, creator, low, high):
+    inside = events_between(store, low, high)
+    return kinds_told([event for event in inside if store.shelf[event.item].creator == creator])
+
+
+def categories_told(store, events):
     tally = [0] * CATEGORY_COUNT
-    for event in events_between(store, low, high):
+    for event in events:
         for category in store.shelf[event.item].categories:
             tally[category] += store.weights[event.kind]
     return [CATEGORY_COUNT] + tally
+
+
+def categories(store, low, high):
+    return categories_told(store, events_between(store, low, high))
+
+
+def profile(store, member):
+    if not member_exists(store, member):
+        return not_found()
+    return categories_told(store, events_of(store, member))
+
+
+def split(store, time):
+    before = [event.member for event in store.events if event.time < time]
+    others = [event.member for event in store.events if event.time >= time]
+    return [len(before), len(others), len(set(before) & set(others))]

@@ -15,12 +15,16 @@ MAX_CATEGORIES_OF_ITEM = 4
 MAX_MEMBER = 1000000
 MAX_TIME = 100000000
 MAX_FLAG = 1
-PURCHASE = 4
+VIEW = 0
+LIKE = 1
+DISLIKE = 2
 RATING = 3
+PURCHASE = 4
 MAX_RATING = 10
 MAX_ITEMS = 40
 MAX_MEMBERS = 40
 MAX_EVENTS = 200
+MAX_STEPS = 6
 
 
 def weights_fit(weights):
@@ -46,5 +50,10 @@ def value_fits(kind, value):
     return value == 0
 
 
-def time_and_half_life_fit(time, half_life):
-    return time <= MAX_TIME and half_life >= 1
+# A span is a half-life or a window: both have the same limits.
+def time_and_span_fit(time, span):
+    return time <= MAX_TIME and span >= 1
+
+
+def kinds_fit(kinds):
+    return len(kinds) >= 1 and len(kinds) <= MAX_STEPS and all([kind < KIND_COUNT for kind in kinds])

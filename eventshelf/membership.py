@@ -2,7 +2,7 @@
 
 from eventshelf.limits import MAX_DAY, MAX_MEMBER, MAX_MEMBERS
 from eventshelf.refusals import not_found, number_taken, outside_limits, too_many
-from eventshelf.store import member_exists
+from eventshelf.store import events_of, items_met, member_exists
 
 
 def add_member(store, member, day):
@@ -29,8 +29,7 @@ def delete_member(store, member):
 def member_info(store, member):
     if not member_exists(store, member):
         return not_found()
-    own = [event for event in store.events if event.member == member]
-    item_count = len(set([event.item for event in own]))
+    own = events_of(store, member)
     # One more than the time, so that an event at time 0 differs from none.
     last_time = own[len(own) - 1].time + 1 if len(own) > 0 else 0
-    return [store.members[member], len(own), item_count, last_time]
+    return [store.members[member], len(own), len(items_met(own)), last_time]

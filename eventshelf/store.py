@@ -40,5 +40,28 @@ def member_exists(store, member):
     return member in store.members
 
 
+def is_available(store, item):
+    return store.shelf[item].withdrawn == 0
+
+
+# Everything about an item, as it is answered and as it is digested.
+def item_data(store, item):
+    shown = store.shelf[item]
+    return [shown.creator, shown.price, shown.day, shown.withdrawn, len(shown.categories)] + shown.categories
+
+
 def events_between(store, low, high):
     return [event for event in store.events if event.time >= low and event.time < high]
+
+
+def events_of(store, member):
+    return [event for event in store.events if event.member == member]
+
+
+def last_time(store):
+    return store.events[len(store.events) - 1].time if len(store.events) > 0 else 0
+
+
+# The different items, in increasing order.
+def items_met(events):
+    return sorted(set([event.item for event in events]))

@@ -3,7 +3,9 @@
 from eventshelf.desk import answers
 
 NAMES = ["create", "add_item", "set_price", "set_withdrawn", "add_member", "delete_member", "record", "expire",
-         "item_info", "member_info", "counts", "ratings", "popularity", "top_items", "categories"]
+         "item_info", "member_info", "counts", "ratings", "popularity", "top_items", "categories", "profile", "history",
+         "sessions", "together", "common_members", "conversion", "funnel", "trending", "unseen", "opinions", "split",
+         "by_creator", "digest", "status"]
 
 WEIGHTS = [1, 3, 0, 2, 10, 0]
 OVER = 4294967295
@@ -70,13 +72,17 @@ def small_store():
 
 
 def look():
-    """Calls that show all of a small store that these calls can show; the last ones change it."""
-    shown = [call("item_info", item) for item in range(4)]
-    shown += [call("member_info", member) for member in (50, 20, 7)]
-    shown += [call("counts", item, 0, OVER) for item in range(4)]
-    shown += [call("ratings", item) for item in range(4)]
-    shown += [call("popularity", item, 400, 100) for item in range(4)]
-    shown += [call("top_items", 400, 100, OVER), call("categories", 0, OVER)]
+    """Calls that show a small store by every question there is; the last ones change it."""
+    shown = [call("digest"), call("status")]
+    for item in range(3):
+        shown += [call("item_info", item), call("counts", item, 0, OVER), call("ratings", item),
+                  call("popularity", item, 400, 100), call("conversion", item)]
+    for member in (50, 20):
+        shown += [call("member_info", member), call("profile", member), call("history", member, OVER),
+                  call("sessions", member), call("unseen", member), call("opinions", member)]
+    shown += [call("together", 0, OVER), call("common_members", 0, 1), call("funnel", 0, OVER, [0, 4]),
+              call("top_items", 400, 100, OVER), call("trending", 126, 20, OVER), call("categories", 0, OVER),
+              call("split", 120), call("by_creator", 1, 0, OVER), call("item_info", 3), call("member_info", 7)]
     shown += [call("record", 125, 20, 0, 5, 0), call("add_item", 0, 0, 0), call("add_member", 7, 0),
               call("expire", 1560), call("delete_member", 20), call("delete_member", 50)]
     return shown

@@ -6,7 +6,9 @@ from helper import add_item, call, create, flat, last, look, run, small_store
 
 HOW_MANY = {"create": 8, "add_item": 3, "set_price": 2, "set_withdrawn": 2, "add_member": 2, "delete_member": 1,
             "record": 5, "expire": 1, "item_info": 1, "member_info": 1, "counts": 3, "ratings": 1, "popularity": 3,
-            "top_items": 3, "categories": 2}
+            "top_items": 3, "categories": 2, "profile": 1, "history": 2, "sessions": 1, "together": 2,
+            "common_members": 2, "conversion": 1, "funnel": 3, "trending": 3, "unseen": 1, "opinions": 1, "split": 1,
+            "by_creator": 3, "digest": 0, "status": 0}
 
 
 class Form(unittest.TestCase):
@@ -107,7 +109,10 @@ class Create(unittest.TestCase):
 
 
 class Example(unittest.TestCase):
-    def test_rows_of_these_calls(self):
+    def test_all_rows(self):
+        in_profile = [0] * 32
+        in_profile[2] = 13
+        in_profile[7] = 16
         rows = [
             (create(0, 30, [1, 3, 0, 2, 10, 0]), [0]),
             (call("add_item", 1, 900, 5, [2, 7]), [0]),
@@ -125,8 +130,19 @@ class Example(unittest.TestCase):
             (call("ratings", 0), [2, 6, 1, 1, 1]),
             (call("popularity", 0, 300, 100), [0, 37, 4]),
             (call("top_items", 300, 100, 5), [2, 0, 1]),
+            (call("profile", 50), [32] + in_profile),
+            (call("history", 50, 9), [2, 0, 1]),
+            (call("sessions", 50), [2, 100, 125, 3, 2, 200, 200, 1, 1]),
+            (call("together", 0, 3), [1, 1, 1]),
+            (call("common_members", 0, 1), [1, 50]),
+            (call("conversion", 0), [0, 1, 1]),
+            (call("funnel", 0, 1000, [0, 4]), [2, 1, 1]),
+            (call("trending", 301, 101, 3), [1, 0]),
+            (call("opinions", 50), [2, 0, 5, 1, 10]),
             (call("set_withdrawn", 1, 1), [0]),
+            (call("unseen", 20), [0]),
             (call("delete_member", 50), [4]),
+            (call("status"), [2, 1, 1, 2, 300]),
             (call("delete_member", 50), MISSING),
         ]
         self.assertEqual(run(*[row[0] for row in rows]), [row[1] for row in rows])
@@ -162,6 +178,19 @@ class Unchanged(unittest.TestCase):
         (call("popularity", 3, 0, 1), MISSING),
         (call("popularity", 0, 0, 0), OUTSIDE),
         (call("top_items", 0, 0, 1), OUTSIDE),
+        (call("profile", 7), MISSING),
+        (call("history", 7, 3), MISSING),
+        (call("sessions", 7), MISSING),
+        (call("together", 3, 3), MISSING),
+        (call("common_members", 0, 3), MISSING),
+        (call("conversion", 3), MISSING),
+        (call("conversion", 1), [-33]),
+        (call("funnel", 0, 9, [6]), OUTSIDE),
+        (call("funnel", 0, 9, []), OUTSIDE),
+        (call("trending", 0, 0, 1), OUTSIDE),
+        (call("trending", 100000001, 1, 1), OUTSIDE),
+        (call("unseen", 7), MISSING),
+        (call("opinions", 7), MISSING),
     ]
 
     def test_each_refusal(self):

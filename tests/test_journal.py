@@ -194,5 +194,107 @@ class Categories(unittest.TestCase):
                                   call("record", 0, 5, 0, 1, 0), call("categories", 0, 1)), expected)
 
 
+class Profile(unittest.TestCase):
+    def told(self, *rows):
+        """The weights of the categories of member 5 that aren't 0; the items 1 to 3 have 31, 0 and 31, and none."""
+        start = [create(1), add_item(7), add_item(31), add_item(0, 31), add_item(), call("add_member", 5, 0),
+                 call("add_member", 6, 0)]
+        told = last(*start, *[call("record", *row) for row in rows], call("profile", 5))
+        self.assertEqual(len(told), 33)
+        self.assertEqual(told[0], 32)
+        return {place: told[1 + place] for place in range(32) if told[1 + place] != 0}
+
+    def test_all_events_of_the_member(self):
+        self.assertEqual(self.told((0, 5, 1, 0, 0), (9, 5, 1, 4, 0), (100000000, 5, 1, 1, 0)), {31: 14})
+
+    def test_the_weight_of_each_kind(self):
+        for kind in range(6):
+            weight = WEIGHTS[kind]
+            self.assertEqual(self.told((0, 5, 0, kind, 4 if kind == 3 else 0)), {7: weight} if weight > 0 else {})
+
+    def test_an_item_with_several_categories_and_one_with_none(self):
+        self.assertEqual(self.told((0, 5, 2, 4, 0), (0, 5, 3, 4, 0), (0, 5, 1, 1, 0)), {0: 10, 31: 13})
+
+    def test_only_own_events(self):
+        self.assertEqual(self.told((0, 6, 2, 4, 0), (0, 5, 1, 1, 0), (3, 6, 0, 0, 0)), {31: 3})
+        self.assertEqual(self.told((0, 6, 2, 4, 0)), {})
+
+    def test_no_events(self):
+        self.assertEqual(self.told(), {})
+
+    def test_withdrawn_items_count_too(self):
+        self.assertEqual(last(*START, call("record", 0, 5, 0, 0, 0), call("set_withdrawn", 0, 1), call("profile", 5)),
+                         [32, 1] + [0] * 31)
+
+    def test_what_is_expired_is_gone(self):
+        self.assertEqual(last(*START, call("record", 0, 5, 1, 4, 0), call("record", 1, 5, 0, 0, 0),
+                              call("expire", 1440), call("profile", 5)), [32, 1] + [0] * 31)
+
+    def test_no_such_member(self):
+        self.assertEqual(last(*START, call("profile", 7)), MISSING)
+        self.assertEqual(last(*START, call("profile", OVER)), MISSING)
+
+
+class Split(unittest.TestCase):
+    def told(self, time, *rows):
+        return last(*START, *[call("record", row[0], row[1], 0, 0, 0) for row in rows], call("split", time))
+
+    def test_events_just_at_the_time(self):
+        rows = [(9, 5), (10, 5), (10, 6), (11, 6)]
+        self.assertEqual(self.told(9, *rows), [0, 4, 0])
+        self.assertEqual(self.told(10, *rows), [1, 3, 1])
+        self.assertEqual(self.told(11, *rows), [3, 1, 1])
+        self.assertEqual(self.told(12, *rows), [4, 0, 0])
+
+    def test_members_with_both_are_counted_once(self):
+        rows = [(0, 5), (1, 5), (1, 6), (2, 5), (3, 5), (3, 6), (4, 6)]
+        self.assertEqual(self.told(2, *rows), [3, 4, 2])
+        self.assertEqual(self.told(1, *rows), [1, 6, 1])
+        self.assertEqual(self.told(4, *rows), [6, 1, 1])
+
+    def test_members_with_one_of_them_are_not_known(self):
+        self.assertEqual(self.told(5, (0, 5), (1, 5), (6, 6), (7, 6)), [2, 2, 0])
+
+    def test_no_events(self):
+        self.assertEqual(self.told(0), [0, 0, 0])
+        self.assertEqual(last(create(), call("split", 7)), [0, 0, 0])
+
+    def test_any_time(self):
+        self.assertEqual(self.told(0, (0, 5), (100000000, 5)), [0, 2, 0])
+        self.assertEqual(self.told(100000000, (0, 5), (100000000, 5)), [1, 1, 1])
+        self.assertEqual(self.told(100000001, (0, 5), (100000000, 5)), [2, 0, 0])
+        self.assertEqual(self.told(OVER, (0, 5), (100000000, 5)), [2, 0, 0])
+
+
+class ByCreator(unittest.TestCase):
+    def told(self, creator, low, high):
+        start = [create(1)] + [call("add_item", number, 0, 0) for number in (4, 0, 4, 1000)]
+        start += [call("add_member", 5, 0), call("add_member", 6, 0)]
+        rows = [(10, 5, 0, 0, 0), (10, 6, 2, 0, 0), (15, 5, 1, 1, 0), (20, 6, 2, 3, 9), (20, 5, 0, 2, 0),
+                (25, 5, 3, 5, 0), (30, 5, 0, 4, 0), (30, 6, 2, 5, 0)]
+        return last(*start, *[call("record", *row) for row in rows], call("set_withdrawn", 2, 1),
+                    call("by_creator", creator, low, high))
+
+    def test_all_items_of_the_creator(self):
+        self.assertEqual(self.told(4, 0, OVER), [6, 2, 0, 1, 1, 1, 1])
+        self.assertEqual(self.told(0, 0, OVER), [6, 0, 1, 0, 0, 0, 0])
+        self.assertEqual(self.told(1000, 0, OVER), [6, 0, 0, 0, 0, 0, 1])
+
+    def test_the_ends_of_the_interval(self):
+        self.assertEqual(self.told(4, 10, 20), [6, 2, 0, 0, 0, 0, 0])
+        self.assertEqual(self.told(4, 11, 30), [6, 0, 0, 1, 1, 0, 0])
+        self.assertEqual(self.told(4, 20, 31), [6, 0, 0, 1, 1, 1, 1])
+
+    def test_low_above_high(self):
+        self.assertEqual(self.told(4, 31, 10), [6, 0, 0, 0, 0, 0, 0])
+        self.assertEqual(self.told(4, 10, 10), [6, 0, 0, 0, 0, 0, 0])
+        self.assertEqual(self.told(4, OVER, 0), [6, 0, 0, 0, 0, 0, 0])
+
+    def test_any_creator(self):
+        for creator in (1, 5, 999, 1001, OVER):
+            self.assertEqual(self.told(creator, 0, OVER), [6, 0, 0, 0, 0, 0, 0])
+        self.assertEqual(last(create(), call("by_creator", OVER, 0, OVER)), [6, 0, 0, 0, 0, 0, 0])
+
+
 if __name__ == "__main__":
     unittest.main()

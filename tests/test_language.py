@@ -126,6 +126,17 @@ class Language(unittest.TestCase):
             if node.id in dir(builtins):
                 self.assertIn(node.id, OWN_OF_PYTHON, place)
 
+    def test_sets_are_neither_kept_nor_walked(self):
+        for name, tree in trees().items():
+            around = {inner: outer for outer in ast.walk(tree) for inner in ast.iter_child_nodes(outer)}
+            for node in ast.walk(tree):
+                if isinstance(node, ast.Call) and getattr(node.func, "id", "") == "set":
+                    outer = around[node]
+                    while isinstance(outer, ast.BinOp):
+                        outer = around[outer]
+                    within = isinstance(outer, ast.Call) and getattr(outer.func, "id", "") in ("sorted", "len")
+                    self.assertTrue(within or isinstance(outer, ast.Compare), f"{name}, line {node.lineno}")
+
     def test_methods_and_values(self):
         for place, node in each(ast.Call):
             if isinstance(node.func, ast.Attribute):

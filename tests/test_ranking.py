@@ -153,5 +153,93 @@ class TopItems(unittest.TestCase):
         self.assertEqual(self.told(0, time=0, half_life=0), OUTSIDE)
 
 
+class Trending(unittest.TestCase):
+    def told(self, time, window, count, *events, withdrawn=()):
+        """The answer after events of member 0: a time, an item and a kind each."""
+        calls = [call("record", at, 0, item, kind, 0) for at, item, kind in events]
+        hidden = [call("set_withdrawn", item, 1) for item in withdrawn]
+        return last(*START, *calls, *hidden, call("trending", time, window, count))
+
+    def test_none(self):
+        self.assertEqual(self.told(100, 10, 9), [0])
+        self.assertEqual(last(create(), call("trending", 0, 1, 9)), [0])
+
+    def test_the_bounds_of_the_last_window(self):
+        events = [(89, 0, 0), (90, 1, 0), (99, 2, 0), (100, 3, 0)]
+        self.assertEqual(self.told(100, 10, 9, *events), [2, 1, 2])
+        self.assertEqual(self.told(99, 10, 9, *events), [2, 0, 1])
+        self.assertEqual(self.told(101, 10, 9, *events), [2, 2, 3])
+
+    def test_the_bounds_of_the_earlier_window(self):
+        # Items 0 to 2 weigh the same in the last window; what is inside the earlier one puts its item behind.
+        late = [(95, 0, 0), (95, 1, 0), (95, 2, 0)]
+        self.assertEqual(self.told(100, 10, 9, (79, 0, 0), *late), [3, 0, 1, 2])
+        self.assertEqual(self.told(100, 10, 9, (80, 0, 0), *late), [3, 1, 2, 0])
+        self.assertEqual(self.told(100, 10, 9, (89, 0, 0), *late), [3, 1, 2, 0])
+        self.assertEqual(self.told(100, 10, 9, (90, 1, 0), *late), [3, 1, 0, 2])
+
+    def test_growth_and_not_weight_decides(self):
+        # Growths 11 / 5, 4 / 1 and 2 / 1.
+        events = [(5, 0, 1), (5, 0, 0), (15, 0, 4), (15, 1, 1), (15, 2, 0)]
+        self.assertEqual(self.told(20, 10, 9, *events), [3, 1, 0, 2])
+
+    def test_a_growth_below_one_is_listed(self):
+        self.assertEqual(self.told(20, 10, 9, (5, 0, 4), (15, 0, 0), (15, 3, 1)), [2, 3, 0])
+
+    def test_ties_by_the_smaller_number(self):
+        self.assertEqual(self.told(20, 10, 9, (15, 3, 1), (15, 1, 1), (15, 2, 4)), [3, 2, 1, 3])
+        self.assertEqual(self.told(20, 10, 1, (15, 3, 1), (15, 1, 1)), [1, 1])
+
+    def test_a_tie_of_different_fractions(self):
+        # 4 / 2 and 2 / 1 are the same, and so are 4 / 4 and 2 / 2.
+        self.assertEqual(self.told(20, 10, 9, (5, 3, 0), (15, 3, 1), (15, 1, 0)), [2, 1, 3])
+        self.assertEqual(self.told(20, 10, 9, (5, 1, 0), (15, 3, 0), (15, 1, 1)), [2, 1, 3])
+        self.assertEqual(self.told(20, 10, 9, (5, 3, 1), (5, 1, 0), (15, 3, 1), (15, 1, 0)), [2, 1, 3])
+
+    def test_the_least_difference_decides(self):
+        # 999 / 1000 and 1000 / 1001 lie close together, and so do 2 / 1001 and 2 / 1000: the greater one comes first.
+        for weights, kinds in (([999, 1000, 998, 0, 0, 0], (0, 1, 2, 0)), ([1000, 999, 1, 0, 0, 0], (0, 1, 2, 2))):
+            start = [create(0, 0, weights), add_item(), add_item(), call("add_member", 0, 0)]
+            rows = [call("record", 0, 0, 0, kinds[0], 0), call("record", 0, 0, 1, kinds[1], 0),
+                    call("record", 9, 0, 0, kinds[2], 0), call("record", 9, 0, 1, kinds[3], 0)]
+            self.assertEqual(last(*start, *rows, call("trending", 10, 5, 9)), [2, 1, 0])
+
+    def test_times_that_would_be_negative(self):
+        self.assertEqual(self.told(10, 11, 9, (0, 2, 0), (9, 1, 1), (10, 0, 0)), [2, 1, 2])
+        self.assertEqual(self.told(10, 8, 9, (0, 1, 0), (2, 2, 0), (2, 1, 0), (10, 0, 0)), [2, 2, 1])
+        self.assertEqual(self.told(10, 10, 9, (0, 2, 0)), [1, 2])
+        self.assertEqual(self.told(10, OVER, 9, (0, 2, 0)), [1, 2])
+
+    def test_at_time_zero(self):
+        self.assertEqual(self.told(0, 1, 9, (0, 2, 0)), [0])
+        self.assertEqual(self.told(0, OVER, 9, (0, 2, 0)), [0])
+        self.assertEqual(self.told(1, 1, 9, (0, 2, 0)), [1, 2])
+
+    def test_a_last_weight_of_zero_is_left_out(self):
+        self.assertEqual(self.told(20, 10, 9, (5, 0, 4), (15, 1, 2), (15, 2, 5), (15, 3, 0)), [1, 3])
+
+    def test_withdrawn_items_are_left_out(self):
+        events = [(15, 0, 4), (15, 1, 1), (15, 2, 0)]
+        self.assertEqual(self.told(20, 10, 9, *events, withdrawn=[0]), [2, 1, 2])
+        self.assertEqual(self.told(20, 10, 1, *events, withdrawn=[0]), [1, 1])
+        self.assertEqual(self.told(20, 10, 9, *events, withdrawn=[0, 1, 2]), [0])
+
+    def test_as_many_as_asked_for(self):
+        events = [(15, 0, 0), (15, 1, 4), (15, 3, 1)]
+        for count, expected in ((0, [0]), (1, [1, 1]), (2, [2, 1, 3]), (3, [3, 1, 3, 0]), (OVER, [3, 1, 3, 0])):
+            self.assertEqual(self.told(20, 10, count, *events), expected)
+
+    def test_events_of_all_members(self):
+        self.assertEqual(last(*START, call("record", 15, 1, 2, 0, 0), call("record", 15, 4, 1, 0, 0),
+                              call("record", 16, 3, 2, 0, 0), call("trending", 20, 10, 9)), [2, 2, 1])
+
+    def test_limits(self):
+        self.assertEqual(self.told(100000000, 1, 9, (99999999, 2, 0)), [1, 2])
+        self.assertEqual(self.told(100000000, OVER, 9), [0])
+        self.assertEqual(self.told(100000001, 1, 9), OUTSIDE)
+        self.assertEqual(self.told(20, 0, 9, (15, 0, 0)), OUTSIDE)
+        self.assertEqual(self.told(0, 0, 0), OUTSIDE)
+
+
 if __name__ == "__main__":
     unittest.main()
